@@ -85,6 +85,12 @@ func areRecipients(list []Addr) bool {
 	return true
 }
 
+func (m Mail) clone() Mail {
+	m.To = slices.Clone(m.To)
+	m.Body = slices.Clone(m.Body)
+	return m
+}
+
 func isHop(line string) bool {
 	name, marked := strings.CutPrefix(line, hopMark)
 	return marked && DomainOk(name)
