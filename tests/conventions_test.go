@@ -16,14 +16,16 @@ func TestConstants(t *testing.T) {
 	limits := []int{
 		impl.WordMax, impl.LabelsMax, impl.LineMax, impl.BodyMax, impl.ToMax, impl.FeedMax,
 		impl.OwnMax, impl.WaysMax, impl.HopMax, impl.CommandMax, impl.CutMax,
+		impl.TriesMax, impl.TimeMax, impl.IdMax, impl.SpoolMax, impl.PauseFirst, impl.JourMax,
 	}
-	if !slices.Equal(limits, []int{8, 3, 40, 12, 4, 800, 3, 4, 4, 80, 40}) {
+	if !slices.Equal(limits, []int{8, 3, 40, 12, 4, 800, 3, 4, 4, 80, 40, 4, 9999, 999, 10, 2, 12000}) {
 		t.Errorf("the limits are %v", limits)
 	}
 	counted := [][]int{
 		{impl.SessNew, impl.SessReady, impl.SessMail, impl.SessRcpt, impl.SessData, impl.SessOver},
 		{impl.CliHello, impl.CliName, impl.CliFrom, impl.CliTo, impl.CliData, impl.CliSent, impl.CliBye, impl.CliOver},
 		{impl.OutNone, impl.OutPass, impl.OutDone, impl.OutTemp, impl.OutPerm},
+		{0, impl.NoteAdd, impl.NoteDone, impl.NoteLater},
 	}
 	for _, list := range counted {
 		for i, n := range list {
@@ -66,6 +68,11 @@ func TestFunctionsOfTextsAnswer(t *testing.T) {
 			impl.SessHello(impl.Conf{Name: s, Own: []string{s}, Ways: []impl.Way{{End: s, To: s}}})
 			impl.CliNew(s, letter())
 			impl.TalkAll(oneConf(), s, letter(), impl.CutMax)
+			impl.Crc(s)
+			impl.NoteGet(s)
+			impl.JourRead(s)
+			impl.JourAdd(s, laterNote(1, ann, 3))
+			impl.JourTear(s, addNote(letter(), 3), 5)
 		})
 	}
 }
@@ -91,6 +98,36 @@ func TestDialoguesAnswer(t *testing.T) {
 			impl.CliOuts(c)
 			impl.CliStep(c, "250 x")
 		})
+	}
+}
+
+func TestSpoolsAnswer(t *testing.T) {
+	extremes := []int{-1 << 63, -1, 0, 1, impl.TriesMax, impl.IdMax, impl.TimeMax, 1<<63 - 1}
+	spools := append(badSpools(), oneSpool(), spoolOf(1<<63-1, item(1<<63-1, rcpt(ann, 1<<63-1, 1<<63-1))), impl.Spool{Items: make([]impl.Item, 10000)})
+	for _, s := range spools {
+		for _, n := range extremes {
+			mustNotPanic(t, spoolText(s), func() {
+				impl.SpoolOk(s)
+				impl.SpoolMany(s)
+				impl.SpoolDue(s, n)
+				impl.SpoolPause(n)
+				impl.SpoolAdd(s, impl.Mail{}, n)
+				impl.SpoolDone(s, n, badAddrs[0])
+				impl.SpoolLater(s, n, ann, n)
+				impl.NoteDo(s, impl.Note{Kind: n, Id: n, Addr: ann, Now: n})
+			})
+		}
+	}
+	for _, n := range badNotes() {
+		for _, bytes := range extremes {
+			mustNotPanic(t, noteText(n), func() {
+				impl.NoteOk(n)
+				impl.NotePut(n)
+				impl.JourAdd("", n)
+				impl.JourTear("", n, bytes)
+				impl.JourTear("", addNote(letter(), 3), bytes)
+			})
+		}
 	}
 }
 
@@ -226,6 +263,108 @@ func TestClientHasMemoryOfItsOwn(t *testing.T) {
 	overwrite(outs, 9)
 	if !sameMail(wholeMail(m), before) {
 		t.Errorf("the message changed with a result: %q", wholeMail(m))
+	}
+}
+
+// roomySpool has spare capacity in each slice, with something in it.
+func roomySpool() impl.Spool {
+	s := oneSpool()
+	for i, x := range s.Items {
+		s.Items[i].To, s.Items[i].Body = roomy(x.To, rcpt(zoe, 1, 1), rcpt(zoe, 2, 2)), roomy(x.Body, "spare", "spare")
+	}
+	s.Items = roomy(s.Items, item(9, rcpt(zoe, 0, 0)), item(9, rcpt(zoe, 0, 0)))
+	return s
+}
+
+// wholeSpool is s with what is in its spare capacity.
+func wholeSpool(s impl.Spool) impl.Spool {
+	s.Items = slices.Clone(s.Items[:cap(s.Items)])
+	for i, x := range s.Items {
+		s.Items[i].To, s.Items[i].Body = slices.Clone(x.To[:cap(x.To)]), slices.Clone(x.Body[:cap(x.Body)])
+	}
+	return s
+}
+
+func overwriteSpool(s impl.Spool) {
+	for _, x := range s.Items[:cap(s.Items)] {
+		overwrite(x.To, rcpt(eve, 9, 9))
+		overwrite(x.Body, "changed")
+	}
+	overwrite(s.Items, item(9))
+}
+
+// checkSlicesApart overwrites each slice of s up to its capacity, and looks whether another one changes.
+func checkSlicesApart(t *testing.T, s impl.Spool) {
+	t.Helper()
+	for i := range s.Items {
+		want := copyOfSpool(s)
+		want.Items[i].To = slices.Repeat([]impl.Rcpt{rcpt(eve, 9, 9)}, len(s.Items[i].To))
+		want.Items[i].Body = slices.Repeat([]string{"changed"}, len(s.Items[i].Body))
+		overwrite(s.Items[i].To, rcpt(eve, 9, 9))
+		overwrite(s.Items[i].Body, "changed")
+		if !sameSpool(s, want) {
+			t.Errorf("one slice changed with another: %s", spoolText(s))
+		}
+	}
+}
+
+// spoolsFrom are the results of every function that gives out a spool, for arguments with which it succeeds or fails.
+func spoolsFrom(s impl.Spool, m impl.Mail) []impl.Spool {
+	var list []impl.Spool
+	for _, now := range []int{5, -1} {
+		added, _ := impl.SpoolAdd(s, m, now)
+		later, _ := impl.SpoolLater(s, 4, bob, now)
+		noted, _ := impl.NoteDo(s, addNote(m, now))
+		list = append(list, added, later, noted)
+	}
+	for _, a := range []impl.Addr{ann, bob, zoe} {
+		for _, id := range []int{2, 4, 8} {
+			done, _ := impl.SpoolDone(s, id, a)
+			noted, _ := impl.NoteDo(s, doneNote(id, a))
+			later, _ := impl.NoteDo(s, laterNote(id, a, 3))
+			list = append(list, done, noted, later)
+		}
+	}
+	failed, _ := impl.NoteDo(s, impl.Note{})
+	return append(list, failed)
+}
+
+func TestSpoolHasMemoryOfItsOwn(t *testing.T) {
+	s, m := roomySpool(), roomyMail(letter())
+	items, mail := wholeSpool(s), wholeMail(m)
+	for _, got := range spoolsFrom(s, m) {
+		overwriteSpool(got)
+	}
+	overwrite(impl.SpoolDue(s, impl.TimeMax), 0)
+	impl.SpoolOk(s)
+	impl.SpoolMany(s)
+	if !sameSpool(wholeSpool(s), items) || !sameMail(wholeMail(m), mail) {
+		t.Errorf("an argument changed with a result: %s, %q", spoolText(wholeSpool(s)), wholeMail(m))
+	}
+	for _, got := range spoolsFrom(roomySpool(), m) {
+		checkSlicesApart(t, got)
+	}
+}
+
+func TestJournalHasMemoryOfItsOwn(t *testing.T) {
+	j, _ := journalOf(story()[:3])
+	first, _ := impl.JourRead(j)
+	overwriteSpool(first)
+	second, _ := impl.JourRead(j)
+	if !sameSpool(second, spoolAfter(t, story()[:3])) {
+		t.Errorf("one result changed with another: %s", spoolText(second))
+	}
+	checkSlicesApart(t, second)
+	n, mail := addNote(roomyMail(letter()), 3), wholeMail(roomyMail(letter()))
+	text := impl.NotePut(n)
+	impl.NoteOk(n)
+	impl.JourAdd(j, n)
+	impl.JourTear(j, n, 9)
+	got, _ := impl.NoteGet(text)
+	overwriteMails(got.Mail)
+	again, _ := impl.NoteGet(text)
+	if !sameMail(wholeMail(n.Mail), mail) || !sameNote(again, n) {
+		t.Errorf("a note changed with a result: %s, %s", noteText(n), noteText(again))
 	}
 }
 
