@@ -1,6 +1,9 @@
 package impl
 
-import "strings"
+import (
+	"cmp"
+	"strings"
+)
 
 // Limits of words and domains.
 const (
@@ -60,6 +63,11 @@ func (a Addr) isNull() bool {
 // isSender tells whether a may stand as the sender of a message: bounces come from the null address.
 func (a Addr) isSender() bool {
 	return a.isNull() || AddrOk(a)
+}
+
+// compare is negative if a comes before b, and positive if it comes behind b.
+func (a Addr) compare(b Addr) int {
+	return cmp.Or(strings.Compare(a.Domain, b.Domain), strings.Compare(a.User, b.User))
 }
 
 // DomainOk reports whether s is a domain.

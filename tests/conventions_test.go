@@ -1,6 +1,8 @@
 package tests
 
 import (
+	"fmt"
+	"reflect"
 	"slices"
 	"strings"
 	"testing"
@@ -17,8 +19,9 @@ func TestConstants(t *testing.T) {
 		impl.WordMax, impl.LabelsMax, impl.LineMax, impl.BodyMax, impl.ToMax, impl.FeedMax,
 		impl.OwnMax, impl.WaysMax, impl.HopMax, impl.CommandMax, impl.CutMax,
 		impl.TriesMax, impl.TimeMax, impl.IdMax, impl.SpoolMax, impl.PauseFirst, impl.JourMax,
+		impl.HostsMax, impl.MarkMax, impl.TickMax, impl.PlayMax, impl.CalmMax,
 	}
-	if !slices.Equal(limits, []int{8, 3, 40, 12, 4, 800, 3, 4, 4, 80, 40, 4, 9999, 999, 10, 2, 12000}) {
+	if !slices.Equal(limits, []int{8, 3, 40, 12, 4, 800, 3, 4, 4, 80, 40, 4, 9999, 999, 10, 2, 12000, 4, 60, 40, 40, 40}) {
 		t.Errorf("the limits are %v", limits)
 	}
 	counted := [][]int{
@@ -26,6 +29,7 @@ func TestConstants(t *testing.T) {
 		{impl.CliHello, impl.CliName, impl.CliFrom, impl.CliTo, impl.CliData, impl.CliSent, impl.CliBye, impl.CliOver},
 		{impl.OutNone, impl.OutPass, impl.OutDone, impl.OutTemp, impl.OutPerm},
 		{0, impl.NoteAdd, impl.NoteDone, impl.NoteLater},
+		{0, impl.EventSubmit, impl.EventTry, impl.EventGone, impl.EventKeep, impl.EventTick},
 	}
 	for _, list := range counted {
 		for i, n := range list {
@@ -73,6 +77,12 @@ func TestFunctionsOfTextsAnswer(t *testing.T) {
 			impl.JourRead(s)
 			impl.JourAdd(s, laterNote(1, ann, 3))
 			impl.JourTear(s, addNote(letter(), 3), 5)
+			impl.MarkOf([]string{s})
+			impl.BounceOf(item(1, rcpt(ann, 0, 0)), impl.Addr{User: s, Domain: s})
+			impl.HostPart(oneHost(), 2, s, 20)
+			impl.LookBox(fullWorld(), impl.Addr{User: s, Domain: s})
+			impl.LookWay(twoHosts(), s, s)
+			impl.LookWay(twoHosts(), "one.org", s)
 		})
 	}
 }
@@ -128,6 +138,56 @@ func TestSpoolsAnswer(t *testing.T) {
 				impl.JourTear("", addNote(letter(), 3), bytes)
 			})
 		}
+	}
+}
+
+func TestHostsAnswer(t *testing.T) {
+	extremes := []int{-1 << 63, -1, 0, 1, impl.IdMax, impl.TimeMax, 1<<63 - 1}
+	for _, h := range append(badHosts(), oneHost()) {
+		name := hostText(h)
+		for _, n := range extremes {
+			mustNotPanic(t, name, func() {
+				impl.HostOk(h)
+				impl.HostNew(h.Conf)
+				impl.HostTake(h, impl.Mail{To: []impl.Addr{ann}}, n)
+				impl.HostOut(h, n, ann, n, n)
+				impl.HostOut(h, n, ann, impl.OutPerm, n)
+				impl.HostPart(h, n, "", n)
+				impl.HostKeep(h, n)
+				for _, x := range h.Spool.Items[:min(2, len(h.Spool.Items))] {
+					impl.BounceOf(x, ann)
+					impl.MarkOf(x.Body)
+				}
+			})
+		}
+	}
+}
+
+func TestWorldsAnswer(t *testing.T) {
+	extremes := []int{-1 << 63, -1, 0, 1, 2, impl.TickMax, 1<<63 - 1}
+	for _, w := range append(badWorlds(), busyWorlds()...) {
+		name := worldText(w)
+		for _, n := range extremes {
+			mustNotPanic(t, name, func() {
+				impl.WorldOk(w)
+				impl.WorldKept(w)
+				impl.WorldCalm(w, n)
+				impl.LookMany(w)
+				impl.LookBox(w, ann)
+				impl.LookTwice(w)
+				for kind := range 7 {
+					impl.WorldDo(w, impl.Event{Kind: kind, Host: n, To: n, Id: n, Cut: n, Mail: impl.Mail{}})
+					impl.WorldDo(w, impl.Event{Kind: kind, To: 1, Id: n, Cut: n, Lose: true, Mail: letter()})
+				}
+			})
+		}
+	}
+	for _, list := range badLists() {
+		mustNotPanic(t, "a list of configurations that is not valid", func() {
+			impl.WorldNew(list)
+			impl.WorldPlay(list, []impl.Event{tick(1), submit(0, impl.CutMax, letter())})
+			impl.LookWay(list, "a", "a")
+		})
 	}
 }
 
@@ -366,6 +426,162 @@ func TestJournalHasMemoryOfItsOwn(t *testing.T) {
 	if !sameMail(wholeMail(n.Mail), mail) || !sameNote(again, n) {
 		t.Errorf("a note changed with a result: %s, %s", noteText(n), noteText(again))
 	}
+}
+
+// span is the memory of a slice, with its spare capacity.
+type span struct {
+	from, to uintptr
+}
+
+// spansOf are the spans of all slices in v, also of those in spare capacity.
+func spansOf(v reflect.Value) []span {
+	var list []span
+	switch v.Kind() {
+	case reflect.Slice:
+		if v.Cap() == 0 {
+			return nil
+		}
+		list = append(list, span{v.Pointer(), v.Pointer() + uintptr(v.Cap())*v.Type().Elem().Size()})
+		for i := range v.Cap() {
+			list = append(list, spansOf(v.Slice(0, v.Cap()).Index(i))...)
+		}
+	case reflect.Struct:
+		for i := range v.NumField() {
+			list = append(list, spansOf(v.Field(i))...)
+		}
+	}
+	return list
+}
+
+// checkApart looks whether any two slices of the results overlap, or one of them and one of the arguments.
+func checkApart(t *testing.T, name string, args []any, results []any) {
+	t.Helper()
+	var given, own []span
+	for _, x := range args {
+		given = append(given, spansOf(reflect.ValueOf(x))...)
+	}
+	for _, x := range results {
+		own = append(own, spansOf(reflect.ValueOf(x))...)
+	}
+	for i, x := range own {
+		for _, y := range slices.Concat(own[:i], given) {
+			if x.from < y.to && y.from < x.to {
+				t.Fatalf("%s: a slice of the result shares memory", name)
+			}
+		}
+	}
+}
+
+// withSpares is a copy of v in which each slice has two elements in its spare capacity: copies of its first one, or zeros.
+func withSpares(v reflect.Value) reflect.Value {
+	out := reflect.New(v.Type()).Elem()
+	out.Set(v)
+	switch v.Kind() {
+	case reflect.Slice:
+		n := v.Len()
+		more := reflect.MakeSlice(v.Type(), n+2, n+2)
+		for i := range n + 2 {
+			if n > 0 {
+				more.Index(i).Set(withSpares(v.Index(i % n)))
+			}
+		}
+		out.Set(more.Slice(0, n))
+	case reflect.Struct:
+		for i := range v.NumField() {
+			out.Field(i).Set(withSpares(v.Field(i)))
+		}
+	}
+	return out
+}
+
+func roomyCopy[T any](x T) T {
+	return withSpares(reflect.ValueOf(x)).Interface().(T)
+}
+
+// wholeText is all that is in v, spare capacity included.
+func wholeText(v reflect.Value) string {
+	text := ""
+	switch v.Kind() {
+	case reflect.Slice:
+		text = fmt.Sprintf("%d/%d", v.Len(), v.Cap())
+		for i := range v.Cap() {
+			text += "," + wholeText(v.Slice(0, v.Cap()).Index(i))
+		}
+		return "[" + text + "]"
+	case reflect.Struct:
+		for i := range v.NumField() {
+			text += wholeText(v.Field(i)) + " "
+		}
+		return "{" + text + "}"
+	}
+	return fmt.Sprintf("%#v", v)
+}
+
+// checkCall calls f, which returns its results, and looks at the memory of these and of the arguments of the function that it calls.
+func checkCall(t *testing.T, name string, args []any, f func() []any) {
+	t.Helper()
+	var before, after []string
+	for _, x := range args {
+		before = append(before, wholeText(reflect.ValueOf(x)))
+	}
+	results := f()
+	for _, x := range args {
+		after = append(after, wholeText(reflect.ValueOf(x)))
+	}
+	if !slices.Equal(before, after) {
+		t.Errorf("%s changes an argument", name)
+	}
+	checkApart(t, name, args, results)
+}
+
+func list[T any](x T, ok bool) []any {
+	return []any{x, ok}
+}
+
+func TestHostHasMemoryOfItsOwn(t *testing.T) {
+	for _, good := range goodHosts() {
+		h, m, x := roomyCopy(good), roomyCopy(letter()), roomyCopy(item(3, rcpt(ann, 0, 0)))
+		x.Body = []string{"Id: 1", "x"}
+		checkCall(t, "BounceOf", []any{x}, func() []any { return list(impl.BounceOf(x, bob)) })
+		checkCall(t, "MarkOf", []any{x}, func() []any { return []any{impl.MarkOf(x.Body), impl.HostOk(h)} })
+		checkCall(t, "HostNew", []any{h.Conf}, func() []any { return []any{impl.HostNew(h.Conf)} })
+		for _, now := range []int{-1, 0, 6, impl.TimeMax} {
+			checkCall(t, "HostTake", []any{h, m}, func() []any { return list(impl.HostTake(h, m, now)) })
+			checkCall(t, "HostKeep", []any{h}, func() []any { return []any{impl.HostKeep(h, now)} })
+			for _, x := range h.Spool.Items {
+				checkCall(t, "HostPart", []any{h}, func() []any { return list(impl.HostPart(h, x.Id, "", now)) })
+				checkCall(t, "HostPart", []any{h}, func() []any { return list(impl.HostPart(h, x.Id, "three", now)) })
+				for out := impl.OutPass; out <= impl.OutPerm; out++ {
+					checkCall(t, "HostOut", []any{h}, func() []any { return list(impl.HostOut(h, x.Id, x.To[0].Addr, out, now)) })
+				}
+			}
+		}
+	}
+}
+
+func TestWorldHasMemoryOfItsOwn(t *testing.T) {
+	busy := busyWorlds()
+	for _, good := range []impl.World{busy[0], busy[5], busy[8], fullWorld(), impl.WorldNew(ring())} {
+		w := roomyCopy(good)
+		eachEvent(func(e impl.Event) {
+			e = roomyCopy(e)
+			checkCall(t, "WorldDo", []any{w, e}, func() []any { return list(impl.WorldDo(w, e)) })
+		})
+		for rounds := range 3 {
+			checkCall(t, "WorldCalm", []any{w}, func() []any { return []any{impl.WorldCalm(w, rounds)} })
+		}
+		for _, a := range []impl.Addr{user("a", "one.org"), user("q", "x.com"), zoe} {
+			checkCall(t, "the queries", []any{w}, func() []any {
+				return []any{impl.LookMany(w), impl.LookBox(w, a), impl.LookTwice(w), impl.WorldKept(w), impl.WorldOk(w)}
+			})
+		}
+	}
+	eachPlay(14, false, func(confs []impl.Conf, events []impl.Event) {
+		confs, events = roomyCopy(confs), roomyCopy(events)
+		checkCall(t, "WorldNew", []any{confs}, func() []any { return []any{impl.WorldNew(confs)} })
+		checkCall(t, "WorldPlay", []any{confs, events}, func() []any { return []any{impl.WorldPlay(confs, events)} })
+		checkCall(t, "LookWay", []any{confs}, func() []any { return []any{impl.LookWay(confs, confs[0].Name, "x.com")} })
+	})
 }
 
 func TestHopPutGivesMemoryOfItsOwn(t *testing.T) {
