@@ -19,9 +19,9 @@ func TestConstants(t *testing.T) {
 		impl.WordMax, impl.LabelsMax, impl.LineMax, impl.BodyMax, impl.ToMax, impl.FeedMax,
 		impl.OwnMax, impl.WaysMax, impl.HopMax, impl.CommandMax, impl.CutMax,
 		impl.TriesMax, impl.TimeMax, impl.IdMax, impl.SpoolMax, impl.PauseFirst, impl.JourMax,
-		impl.HostsMax, impl.MarkMax, impl.TickMax, impl.PlayMax, impl.CalmMax,
+		impl.HostsMax, impl.MarkMax, impl.TickMax, impl.PlayMax, impl.CalmMax, impl.SessionMax,
 	}
-	if !slices.Equal(limits, []int{8, 3, 40, 12, 4, 800, 3, 4, 4, 80, 40, 4, 9999, 999, 10, 2, 12000, 4, 60, 40, 40, 40}) {
+	if !slices.Equal(limits, []int{8, 3, 40, 12, 4, 800, 3, 4, 4, 80, 40, 4, 9999, 999, 10, 2, 12000, 4, 60, 40, 40, 40, 50}) {
 		t.Errorf("the limits are %v", limits)
 	}
 	counted := [][]int{
@@ -83,8 +83,40 @@ func TestFunctionsOfTextsAnswer(t *testing.T) {
 			impl.LookBox(fullWorld(), impl.Addr{User: s, Domain: s})
 			impl.LookWay(twoHosts(), s, s)
 			impl.LookWay(twoHosts(), "one.org", s)
+			impl.Session([]string{s})
 		})
 	}
+}
+
+// TestSessionsAnswer has odd texts in the place of each word.
+func TestSessionsAnswer(t *testing.T) {
+	lines := append(pair().lines(), "host one.org - a=b", "mail 0 40 <a@one.org> <b@two.org> x", "try 0 1 1 40", "gone 0 1", "keep 0", "tick 1", "calm 1", "many", "kept", "box <b@two.org>")
+	for _, odd := range append(oddTexts(), strings.Repeat(" ", 100000), strings.Repeat(",", 100000), strings.Repeat(" a=b", 100000), "9223372036854775808", "-9223372036854775808") {
+		for _, line := range lines {
+			words := strings.Split(line, " ")
+			for i := range words {
+				spoilt := slices.Clone(words)
+				spoilt[i] = odd
+				mustNotPanic(t, line, func() {
+					impl.Session([]string{strings.Join(spoilt, " "), line, strings.Join(spoilt, " ")})
+					impl.Session(append(pair().lines(), lines[3], strings.Join(spoilt, " "), "many", line+odd, odd+line, "kept"))
+				})
+			}
+		}
+	}
+	mustNotPanic(t, "many lines", func() { impl.Session(make([]string, 100000)) })
+}
+
+func TestSessionWritesIntoNoArgument(t *testing.T) {
+	eachSession(40, func(lines []string) {
+		lines = roomyCopy(lines)
+		first := impl.Session(lines)
+		checkCall(t, "Session", []any{lines}, func() []any { return []any{impl.Session(lines)} })
+		impl.Session(pair().lines())
+		if again := impl.Session(lines); again != first {
+			t.Errorf("%q puts out %q, and then %q", lines, first, again)
+		}
+	})
 }
 
 func TestDialoguesAnswer(t *testing.T) {
