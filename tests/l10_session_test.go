@@ -48,7 +48,7 @@ func pair() talk {
 	return talk{{"host one.org one.org two.org=two.org net=gone.net", "ok"}, {"host two.org two.org,x.com one.org=one.org no.org=one.org", "ok"}}
 }
 
-// said is a line that is expected to put out the same in each case.
+// said is one line and what it puts out.
 func said(line string, out string) talk {
 	return talk{{line, out}}
 }
