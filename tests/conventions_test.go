@@ -20,8 +20,9 @@ func TestConstants(t *testing.T) {
 		impl.OwnMax, impl.WaysMax, impl.HopMax, impl.CommandMax, impl.CutMax,
 		impl.TriesMax, impl.TimeMax, impl.IdMax, impl.SpoolMax, impl.PauseFirst, impl.JourMax,
 		impl.HostsMax, impl.MarkMax, impl.TickMax, impl.PlayMax, impl.CalmMax, impl.SessionMax,
+		impl.CodeMax, impl.AliasMax, impl.RulesMax,
 	}
-	if !slices.Equal(limits, []int{8, 3, 40, 12, 4, 800, 3, 4, 4, 80, 40, 4, 9999, 999, 10, 2, 12000, 4, 60, 40, 40, 40, 50}) {
+	if !slices.Equal(limits, []int{8, 3, 40, 12, 4, 800, 3, 4, 4, 80, 40, 4, 9999, 999, 10, 2, 12000, 4, 60, 40, 40, 40, 50, 240, 6, 5}) {
 		t.Errorf("the limits are %v", limits)
 	}
 	counted := [][]int{
@@ -30,6 +31,8 @@ func TestConstants(t *testing.T) {
 		{impl.OutNone, impl.OutPass, impl.OutDone, impl.OutTemp, impl.OutPerm},
 		{0, impl.NoteAdd, impl.NoteDone, impl.NoteLater},
 		{0, impl.EventSubmit, impl.EventTry, impl.EventGone, impl.EventKeep, impl.EventTick},
+		{0, impl.AskFrom, impl.AskLine, impl.AskNull, impl.AskAll},
+		{0, impl.DoKeep, impl.DoDrop, impl.DoSend},
 	}
 	for _, list := range counted {
 		for i, n := range list {
@@ -84,6 +87,17 @@ func TestFunctionsOfTextsAnswer(t *testing.T) {
 			impl.LookWay(twoHosts(), s, s)
 			impl.LookWay(twoHosts(), "one.org", s)
 			impl.Session([]string{s})
+			impl.CodePut(s)
+			impl.CodeGet(s)
+			impl.QuotePut(s)
+			impl.QuoteGet(s)
+			impl.LinesPut(s)
+			impl.LinesGet([]string{s})
+			impl.LinesGet([]string{s, "QUJD", s})
+			impl.AliasFor(goodAliases()[2], impl.Addr{User: s, Domain: s})
+			impl.AliasFor([]impl.Alias{{From: impl.Addr{User: s, Domain: s}, To: []impl.Addr{{User: s, Domain: s}}}}, ann)
+			impl.SieveFor([]impl.Rule{keeping(impl.AskFrom, s)}, letter())
+			impl.SieveDo([]impl.Rule{dropping(impl.AskLine, s)}, impl.Mail{From: ann, To: []impl.Addr{bob}, Body: []string{s}})
 		})
 	}
 }
@@ -221,6 +235,42 @@ func TestWorldsAnswer(t *testing.T) {
 			impl.LookWay(list, "a", "a")
 		})
 	}
+}
+
+func TestAliasesAnswer(t *testing.T) {
+	answer := func(list []impl.Alias, m impl.Mail) {
+		mustNotPanic(t, "a function of aliases", func() {
+			impl.AliasOk(list)
+			impl.AliasRound(list)
+			impl.AliasFlat(list)
+			impl.AliasMail(list, m)
+			for _, a := range append(badAddrs, ann, impl.Addr{}) {
+				impl.AliasFor(list, a)
+			}
+		})
+	}
+	for _, list := range append(goodAliases(), badAliases()...) {
+		answer(list, letter())
+		answer(list, impl.Mail{})
+	}
+	eachBadMail(func(m impl.Mail) { answer(goodAliases()[4], m) })
+}
+
+func TestSievesAnswer(t *testing.T) {
+	answer := func(list []impl.Rule, m impl.Mail) {
+		mustNotPanic(t, "a function of rules", func() {
+			impl.SieveOk(list)
+			impl.SieveFor(list, m)
+			impl.SieveDo(list, m)
+			impl.SieveTidy(list)
+		})
+	}
+	for _, r := range append(goodRules(), badRules()...) {
+		answer([]impl.Rule{r}, letter())
+		answer([]impl.Rule{r, r}, impl.Mail{})
+		answer(slices.Repeat([]impl.Rule{r}, impl.RulesMax+1), mailFrom("", "x"))
+	}
+	eachBadMail(func(m impl.Mail) { answer(goodRules()[:impl.RulesMax], m) })
 }
 
 func TestFunctionsOfMessagesAnswer(t *testing.T) {
@@ -613,6 +663,56 @@ func TestWorldHasMemoryOfItsOwn(t *testing.T) {
 		checkCall(t, "WorldNew", []any{confs}, func() []any { return []any{impl.WorldNew(confs)} })
 		checkCall(t, "WorldPlay", []any{confs, events}, func() []any { return []any{impl.WorldPlay(confs, events)} })
 		checkCall(t, "LookWay", []any{confs}, func() []any { return []any{impl.LookWay(confs, confs[0].Name, "x.com")} })
+	})
+}
+
+func TestEncodedLinesHaveMemoryOfTheirOwn(t *testing.T) {
+	for _, n := range []int{0, 1, 30, 31, 100, impl.CodeMax, impl.CodeMax + 1} {
+		s := madeUp(n)
+		first := impl.LinesPut(s)
+		lines := roomyCopy(first)
+		overwrite(first, "changed")
+		checkCall(t, "LinesPut", []any{lines}, func() []any { return []any{impl.LinesPut(s)} })
+		checkCall(t, "LinesGet", []any{lines}, func() []any { return list(impl.LinesGet(lines)) })
+		if got := impl.LinesPut(s); !slices.Equal(got, lines) {
+			t.Errorf("one result changed with another: %q", got)
+		}
+	}
+}
+
+func TestAliasesHaveMemoryOfTheirOwn(t *testing.T) {
+	check := func(x []impl.Alias) {
+		x, m := roomyCopy(x), roomyCopy(impl.Mail{From: ann, To: addrs("a@x b@x a@z"), Body: []string{"x", "y"}})
+		for _, a := range []impl.Addr{spelt("a@x"), zoe, {}} {
+			checkCall(t, "AliasFor", []any{x}, func() []any { return []any{impl.AliasOk(x), impl.AliasFor(x, a)} })
+		}
+		checkCall(t, "AliasRound", []any{x}, func() []any { return []any{impl.AliasRound(x)} })
+		checkCall(t, "AliasFlat", []any{x}, func() []any { return []any{impl.AliasFlat(x)} })
+		checkCall(t, "AliasMail", []any{x, m}, func() []any { return list(impl.AliasMail(x, m)) })
+		flat, round := impl.AliasFlat(x), impl.AliasRound(x)
+		for _, y := range impl.AliasFlat(x) {
+			overwrite(y.To, eve)
+		}
+		overwrite(impl.AliasRound(x), eve)
+		if !sameAliases(impl.AliasFlat(x), flat) || !slices.Equal(impl.AliasRound(x), round) {
+			t.Errorf("one result of %s changed with another", aliasText(x))
+		}
+	}
+	eachAliases(300, check)
+	for _, x := range append(goodAliases(), aliases("a@x:b@x", "a@x:c@x"), aliases("a@x:")) {
+		check(x)
+	}
+}
+
+func TestSievesHaveMemoryOfTheirOwn(t *testing.T) {
+	eachSieve(func(rules []impl.Rule) {
+		rules, m := roomyCopy(rules), roomyCopy(mailFrom("a@one.org", "x", "y"))
+		checkCall(t, "SieveFor", []any{rules, m}, func() []any { return []any{impl.SieveOk(rules), impl.SieveFor(rules, m)} })
+		checkCall(t, "SieveDo", []any{rules, m}, func() []any {
+			got, do := impl.SieveDo(rules, m)
+			return []any{got, do}
+		})
+		checkCall(t, "SieveTidy", []any{rules}, func() []any { return []any{impl.SieveTidy(rules)} })
 	})
 }
 
